@@ -1,0 +1,1 @@
+"""Formats compiled to machines that read byte by byte."""
