@@ -1,5 +1,6 @@
 """The least machine of a format."""
 
+from formatmachines.formats import FIRST_BYTE, LAST_BYTE
 from formatmachines.places import END, Places
 
 
@@ -141,14 +142,57 @@ class Machine:
                 return there
         return None
 
+    def has_text(self, text):
+        """1 if the format has the text, else 0."""
+        state = 0
+        for byte in text:
+            state = self.goes(state, byte)
+            if state is None:
+                return 0
+        return self.ends[state]
+
+    def longest_piece(self, text, start):
+        """How long the longest text of the format is that stands in text from start on; 0 if there's none of a byte
+        or more."""
+        longest = 0
+        state = 0
+        for place in range(start, len(text)):
+            state = self.goes(state, text[place])
+            if state is None:
+                break
+            if self.ends[state]:
+                longest = place + 1 - start
+        return longest
+
+    def has_same_texts(self, other):
+        # There is one least machine for the same texts, and one way to number its states and to tell its ranges.
+        return self.ends == other.ends and self.ranges == other.ranges
+
+    def free_ranges(self):
+        """The bytes a format may have that no text of this one has, in ranges with the state 0."""
+        used = {}
+        # From every state a text of the format can be reached, so each byte of a range stands in some text.
+        for ranges in self.ranges:
+            for first, last, there in ranges:
+                for byte in range(first, last + 1):
+                    used[byte] = True
+        unused = []
+        for byte in range(FIRST_BYTE, LAST_BYTE + 1):
+            if byte not in used:
+                add_range(unused, byte, byte, 0)
+        return unused
+
 
 def join_ranges(spans, moves, renumbered):
     """The ranges (first byte, last byte, state) of a state with these moves."""
     ranges = []
     for span, there in moves:
-        first = spans[span][0]
-        state = renumbered[there]
-        if ranges and ranges[-1][1] + 1 == first and ranges[-1][2] == state:
-            first = ranges.pop()[0]
-        ranges.append((first, spans[span][1], state))
+        add_range(ranges, spans[span][0], spans[span][1], renumbered[there])
     return ranges
+
+
+def add_range(ranges, first, last, state):
+    """Puts the bytes behind the ranges, into the last one of them if they go on with it."""
+    if ranges and ranges[-1][1] + 1 == first and ranges[-1][2] == state:
+        first = ranges.pop()[0]
+    ranges.append((first, last, state))

@@ -1,5 +1,7 @@
 """What the tests share: formats told by numbers, lines of calls, and machines worked out in other ways."""
 
+import random
+
 from formatmachines.streams import answers
 
 LETTERS = range(97, 123)
@@ -58,8 +60,36 @@ def call_at():
     return [4]
 
 
+def call_wished():
+    return [5]
+
+
+def call_accepts(told):
+    return [6, len(told)] + told
+
+
+def call_equal(made):
+    return [7, len(made)] + made
+
+
+def call_cut(told):
+    return [8, len(told)] + told
+
+
+def call_free():
+    return [9]
+
+
 def feed_text(text):
     return call_feed(told_text(text))
+
+
+def accepts_text(text):
+    return call_accepts(told_text(text))
+
+
+def cut_text(text):
+    return call_cut(told_text(text))
 
 
 def ask(*calls):
@@ -163,6 +193,81 @@ def texts_of_repeat(piece):
         if time >= piece[2]:
             texts |= longer
     return texts
+
+
+def ends_in(row, text, place):
+    """The places in text at which a text of the row ends that begins at place."""
+    ends = {place}
+    for piece in row:
+        ends = {there for here in ends for there in ends_of_piece(piece, text, here)}
+    return ends
+
+
+def ends_of_piece(piece, text, place):
+    kind = piece[0]
+    if kind == "literal":
+        behind = place + len(piece[1])
+        return {behind} if text[place:behind] == piece[1] else set()
+    if kind in ("number", "word"):
+        return {place + count for count in range(piece[1], piece[2] + 1)
+                if is_print_of(piece, text[place:place + count], count)}
+    if kind == "alternatives":
+        return ends_in(piece[1], text, place) | ends_in(piece[2], text, place)
+    if kind == "optional":
+        return {place} | ends_in(piece[1], text, place)
+    separator = (("literal", piece[1]),)
+    ends = set()
+    for times in range(piece[2], piece[3] + 1):
+        ends |= ends_in((piece[4] + separator) * (times - 1) + piece[4] if times else (), text, place)
+    return ends
+
+
+def is_print_of(piece, text, count):
+    """Whether the text is one of a number or a word of so many signs."""
+    if piece[0] == "word":
+        return len(text) == count and all(byte in LETTERS for byte in text)
+    if len(text) != count or any(byte not in DIGITS for byte in text):
+        return False
+    return piece[1] == piece[2] or count == 1 or text[0] != 48
+
+
+def cut_of_row(row, text):
+    """What cut has to answer, worked out with no machine."""
+    lengths = []
+    place = 0
+    while True:
+        behind = max(ends_in(row, text, place), default=place)
+        if behind == place:
+            return [len(lengths)] + lengths + [place]
+        lengths.append(behind - place)
+        place = behind
+
+
+def bytes_of_row(row):
+    """All bytes that stand in texts of the row. Each of its pieces has some text, so none rules another one out."""
+    found = set()
+    for piece in row:
+        kind = piece[0]
+        if kind == "literal":
+            found |= set(piece[1])
+        elif kind in ("number", "word"):
+            found |= set(DIGITS if kind == "number" else LETTERS)
+        elif kind == "alternatives":
+            found |= bytes_of_row(piece[1]) | bytes_of_row(piece[2])
+        elif kind == "optional":
+            found |= bytes_of_row(piece[1])
+        else:
+            found |= bytes_of_row(piece[4]) if piece[3] > 0 else set()
+            found |= set(piece[1]) if piece[3] > 1 else set()
+    return found
+
+
+def free_of_row(row):
+    """What free has to answer, worked out with no machine."""
+    found = bytes_of_row(row)
+    firsts = [byte for byte in range(32, 127) if byte not in found and (byte == 32 or byte - 1 in found)]
+    lasts = [byte for byte in range(32, 127) if byte not in found and (byte == 126 or byte + 1 in found)]
+    return [len(firsts)] + sum([[first, last, 0] for first, last in zip(firsts, lasts)], [])
 
 
 def machine_of_texts(texts):
@@ -309,3 +414,33 @@ def order_by_least_texts(ends, goes, classes):
                 layer.append((text, state))
     renumbered = [{byte: found[classes[there]] for byte, there in goes[state].items()} for state in samples]
     return [ends[state] for state in samples], least, renumbered
+
+
+class Made:
+    """Formats made up one after another, from a beginning that is always the same."""
+
+    def __init__(self, seed):
+        self.chosen = random.Random(seed)
+
+    def text(self, least, signs):
+        return "".join(self.chosen.choice(signs) for _ in range(self.chosen.randint(least, 2)))
+
+    def row(self, depth, repeated, signs):
+        pieces = [self.piece(depth, repeated, signs) for _ in range(self.chosen.randint(0, 3))]
+        return told_row(*pieces)
+
+    def piece(self, depth, repeated, signs):
+        kind = self.chosen.choice((0, 0, 1, 2) if depth == 0 else (0, 1, 2, 3, 4) if repeated else (0, 1, 2, 3, 4, 5))
+        lo = self.chosen.randint(1, 2)
+        if kind == 0:
+            return literal(self.text(1, signs))
+        if kind == 1:
+            return number(lo, self.chosen.randint(lo, 2))
+        if kind == 2:
+            return word(1, 1)
+        if kind == 3:
+            return alternatives(self.row(depth - 1, repeated, signs), self.row(depth - 1, repeated, signs))
+        if kind == 4:
+            return optional(*[self.piece(depth - 1, repeated, signs) for _ in range(lo)])
+        hi = self.chosen.randint(lo, 3)
+        return repeat(self.text(0, signs), lo - 1, hi, self.piece(depth - 1, True, signs))

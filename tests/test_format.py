@@ -1,9 +1,9 @@
-"""Point 1: which lists are whole a format, and what a refused and a taken one do."""
+"""Points 1 and 2: which lists are whole a format, to format and to equal, and what a refused and a taken one do."""
 
 import unittest
 
-from helper import (alternatives, ask, call_at, call_format, call_state, feed_text, literal, number, optional, repeat,
-                    told_row, word)
+from helper import (alternatives, ask, call_at, call_equal, call_format, call_state, feed_text, literal, number,
+                    optional, repeat, told_row, word)
 
 LARGE = 10 ** 18
 RICH = told_row(
@@ -16,12 +16,13 @@ RICH = told_row(
 
 class FormatTest(unittest.TestCase):
     def assert_refused(self, made):
-        self.assertEqual(ask(call_format(made)), [[-1]], made)
+        self.assertEqual(ask(call_format(made), call_equal(made)), [[-1], [-1]], made)
 
     def assert_taken(self, made):
-        (told,) = ask(call_format(made))
+        told, equal = ask(call_format(made), call_equal(made))
         self.assertEqual(len(told), 2, made)
         self.assertGreaterEqual(told[0], 1)
+        self.assertEqual(equal, [1], made)
 
 
 class NotWhole(FormatTest):
@@ -184,12 +185,14 @@ class WhatStays(FormatTest):
         behind = [call_at(), call_state(4), feed_text("0ab")]
         plain = ask(*ahead, *behind)
         for bad in ([], [1], RICH[:-1], RICH + [0], [1, 6], [1, 1, 0, 1]):
-            told = ask(*ahead, call_format(bad), *behind)
-            self.assertEqual(told, plain[:3] + [[-1]] + plain[3:])
+            for call in (call_format, call_equal):
+                told = ask(*ahead, call(bad), *behind)
+                self.assertEqual(told, plain[:3] + [[-1]] + plain[3:])
 
     def test_refused_leaves_a_lost_stream_lost(self):
-        told = ask(call_format(RICH), feed_text("x?"), call_format([1]), call_at())
-        self.assertEqual(told[1:], [[0, 1], [-1], [0, 1]])
+        for call in (call_format, call_equal):
+            told = ask(call_format(RICH), feed_text("x?"), call([1]), call_at())
+            self.assertEqual(told[1:], [[0, 1], [-1], [0, 1]])
 
     def test_taken_sets_the_stream_back(self):
         for text in ("x=1", "x?"):

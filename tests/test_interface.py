@@ -3,12 +3,15 @@
 import unittest
 
 from formatmachines.streams import answers
-from helper import (alternatives, call_at, call_feed, call_format, call_reset, call_state, feed_text, literal, number,
-                    repeat, told_row, word)
+from helper import (accepts_text, alternatives, call_accepts, call_at, call_cut, call_equal, call_feed, call_format,
+                    call_free, call_reset, call_state, call_wished, cut_text, feed_text, literal, number, repeat,
+                    told_row, word)
 
 MADE = told_row(literal("#"), repeat(" ", 0, 3, alternatives(told_row(number(1, 2)), told_row(word(1, 2)))))
 CALLS = (call_format(MADE) + feed_text("#12 ") + call_state(1) + call_at() + call_format([1, 1, 2, 1])
-         + call_state(-5) + call_feed([2, 1]) + call_reset() + feed_text("?") + call_at())
+         + call_state(-5) + call_feed([2, 1]) + call_reset() + call_wished() + accepts_text("#1 ab") + call_equal(MADE)
+         + cut_text("#1##a ") + call_accepts([2]) + call_cut([-1]) + call_equal([1]) + call_free() + feed_text("?")
+         + call_wished() + call_at())
 
 
 class Answers(unittest.TestCase):
@@ -36,6 +39,9 @@ class Answers(unittest.TestCase):
         self.assertEqual(answers(call_at()), [5, 1, 0, 0, 1, 0])
         answers(feed_text("x"))
         self.assertEqual(answers(call_at()), [5, 1, 0, 0, 1, 0])
+        answers(call_format(MADE))
+        self.assertEqual(answers(call_wished() + accepts_text("#") + call_equal([0]) + cut_text("#") + call_free()),
+                         [1, 0, 1, 0, 1, 1, 2, 0, 0, 4, 1, 32, 126, 0])
 
     def test_whole_numbers_in_one_list(self):
         given = answers(list(CALLS))
@@ -46,7 +52,15 @@ class Answers(unittest.TestCase):
         self.assertEqual(answers(call_format([])), [1, -1])
         self.assertEqual(answers(call_feed([])), [1, -1])
         self.assertEqual(answers(call_state(1)), [1, -2])
+        self.assertEqual(answers(call_accepts([])), [1, -1])
+        self.assertEqual(answers(call_equal([])), [1, -1])
+        self.assertEqual(answers(call_cut([])), [1, -1])
         self.assertEqual(answers(call_reset()), [1, 0])
+        self.assertEqual(answers(call_wished()), [1, 0])
+        self.assertEqual(answers(call_accepts([0])), [1, 1])
+        self.assertEqual(answers(call_equal([0])), [1, 1])
+        self.assertEqual(answers(call_cut([0])), [2, 0, 0])
+        self.assertEqual(answers(call_free()), [4, 1, 32, 126, 0])
         self.assertEqual(answers(call_state(0)), [3, 1, 0, 0])
         self.assertEqual(answers(feed_text("a")), [2, 0, 0])
         self.assertEqual(answers(call_format(told_row(literal("a"))) + call_state(0) + call_at()),
@@ -55,6 +69,8 @@ class Answers(unittest.TestCase):
     def test_lists_that_look_like_calls_are_not_read_as_such(self):
         self.assertEqual(answers(call_format([3, 4]) + call_feed([4]) + call_at()),
                          [1, -1, 1, -1, 5, 1, 0, 0, 1, 0])
+        self.assertEqual(answers(call_accepts([9, 9]) + call_equal([5]) + call_cut([4, 4, 4]) + call_wished()),
+                         [1, -1, 1, -1, 1, -1, 1, 0])
 
 
 if __name__ == "__main__":

@@ -2,8 +2,9 @@
 
 import unittest
 
-from helper import (ask, ask_machine, call_at, call_feed, call_format, call_reset, call_state, feed_text, literal,
-                    machine_of_ways, number, optional, repeat, told_row, word)
+from helper import (accepts_text, ask, ask_machine, call_at, call_equal, call_feed, call_format, call_free, call_reset,
+                    call_state, call_wished, cut_text, feed_text, literal, machine_of_ways, number, optional, repeat,
+                    told_row, word)
 
 # Where ways in order are told apart it has 1982 states, and they are all needed.
 MOST_STATES = told_row(
@@ -83,6 +84,22 @@ class ThirtyCalls(unittest.TestCase):
     def test_thirty_large_formats(self):
         told = ask(*[call_format(MOST_STATES), call_format(MOST_MERGED)] * 15)
         self.assertEqual(told, [[1982, 51042], [1116, 28140]] * 15)
+
+    def test_thirty_large_formats_compared(self):
+        told = ask(call_format(MOST_STATES), *[call_equal(MOST_MERGED), call_equal(MOST_STATES)] * 14, call_free())
+        self.assertEqual(told[1:], [[0], [1]] * 14 + [[3, 32, 47, 0, 58, 96, 0, 123, 126, 0]])
+
+    def test_large_formats_alike_but_in_their_last_bytes(self):
+        otherwise = [7] + MOST_STATES[1:-5] + literal("a") + literal("aa")
+        told = ask(call_format(MOST_STATES), call_equal(otherwise), call_equal(MOST_STATES[:-1] + [98]))
+        self.assertEqual(told, [[1982, 51042], [1], [0]])
+
+    def test_large_machines_read_texts(self):
+        text = "a0429" + "bcdea" + "abcd" + "xyz" + "aaa"
+        told = ask(call_format(MOST_STATES), accepts_text(text), accepts_text(text[:-1]), cut_text(text * 3),
+                   cut_text(text * 2 + "a"), feed_text(text[:5]), call_wished())
+        self.assertEqual(told[1:], [[1], [0], [3, 20, 20, 20, 60], [2, 20, 20, 40], [1, 5, 5, 0, 12],
+                                    [1, 97, 122, 6]])
 
     def test_all_kinds_of_calls(self):
         made = told_row(repeat(",", 1, 4, number(1, 2)))

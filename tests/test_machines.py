@@ -1,9 +1,8 @@
 """The machine of each kind of piece, and of kinds within one another."""
 
-import random
 import unittest
 
-from helper import (alternatives, ask, ask_machine, call_at, call_feed, call_format, literal, machine_of_texts,
+from helper import (Made, alternatives, ask, ask_machine, call_at, call_feed, call_format, literal, machine_of_texts,
                     machine_of_ways, number, optional, read_row, repeat, texts_of_row, told_row, word)
 
 
@@ -180,36 +179,6 @@ class AtEachState(unittest.TestCase):
                 if not state[0] and ahead:
                     missing[number_of_state] = 1 + min(ahead)
         return missing
-
-
-class Made:
-    """Formats made up one after another, from a beginning that is always the same."""
-
-    def __init__(self, seed):
-        self.chosen = random.Random(seed)
-
-    def text(self, least, signs):
-        return "".join(self.chosen.choice(signs) for _ in range(self.chosen.randint(least, 2)))
-
-    def row(self, depth, repeated, signs):
-        pieces = [self.piece(depth, repeated, signs) for _ in range(self.chosen.randint(0, 3))]
-        return told_row(*pieces)
-
-    def piece(self, depth, repeated, signs):
-        kind = self.chosen.choice((0, 0, 1, 2) if depth == 0 else (0, 1, 2, 3, 4) if repeated else (0, 1, 2, 3, 4, 5))
-        lo = self.chosen.randint(1, 2)
-        if kind == 0:
-            return literal(self.text(1, signs))
-        if kind == 1:
-            return number(lo, self.chosen.randint(lo, 2))
-        if kind == 2:
-            return word(1, 1)
-        if kind == 3:
-            return alternatives(self.row(depth - 1, repeated, signs), self.row(depth - 1, repeated, signs))
-        if kind == 4:
-            return optional(*[self.piece(depth - 1, repeated, signs) for _ in range(lo)])
-        hi = self.chosen.randint(lo, 3)
-        return repeat(self.text(0, signs), lo - 1, hi, self.piece(depth - 1, True, signs))
 
 
 class AgainstOtherWays(MachineTest):

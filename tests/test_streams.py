@@ -2,8 +2,8 @@
 
 import unittest
 
-from helper import (alternatives, ask, call_at, call_feed, call_format, call_reset, call_state, feed_text, literal,
-                    number, optional, repeat, told_row, told_text, word)
+from helper import (alternatives, ask, call_accepts, call_at, call_cut, call_feed, call_format, call_reset, call_state,
+                    feed_text, literal, number, optional, repeat, told_row, told_text, word)
 
 LARGE = 10 ** 18
 ABC = told_row(literal("abc"))
@@ -27,9 +27,12 @@ class StatesThatAreNotThere(unittest.TestCase):
 
 
 class TextsThatAreRefused(unittest.TestCase):
+    """What feed, accepts and cut refuse, each of them."""
+
     def assert_refused(self, told):
-        self.assertEqual(ask(call_format(ABC), feed_text("a"), call_feed(told), call_at(), feed_text("bc")),
-                         [[4, 3], [1, 1, 1, 0, 2], [-1], [1, 1, 1, 0, 2], [1, 3, 3, 1, 0]])
+        for call in (call_feed, call_accepts, call_cut):
+            self.assertEqual(ask(call_format(ABC), feed_text("a"), call(told), call_at(), feed_text("bc")),
+                             [[4, 3], [1, 1, 1, 0, 2], [-1], [1, 1, 1, 0, 2], [1, 3, 3, 1, 0]])
 
     def test_cut_short(self):
         for told in ([], [1], [2, 98], [3, 98, 99], [60] + [98] * 59, [LARGE, 98], [70] + [98] * 69):
@@ -55,8 +58,9 @@ class TextsThatAreRefused(unittest.TestCase):
         self.assert_refused([60] + [98] * 59 + [256])
 
     def test_refused_once_it_is_lost(self):
-        told = ask(call_format(ABC), feed_text("ax"), call_feed([1]), call_at())
-        self.assertEqual(told[1:], [[0, 1], [-1], [0, 1]])
+        for call in (call_feed, call_accepts, call_cut):
+            told = ask(call_format(ABC), feed_text("ax"), call([1]), call_at())
+            self.assertEqual(told[1:], [[0, 1], [-1], [0, 1]])
 
 
 class TextsThatAreTaken(unittest.TestCase):
